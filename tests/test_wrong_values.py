@@ -1,0 +1,288 @@
+"""Values of every kind for every parameter: the error that is named for it, with this very value."""
+
+import unittest
+from itertools import combinations
+
+from afloatintime import days, errors, rings, yards
+from afloatintime.yards import Yard
+from tests.samples import ANY
+
+WORKS = (("hull", 5), ("keel", 3), ("paint", 2))
+NEEDS = (("hull", "paint", 0, -2), ("keel", "hull", 0, 0), ("paint", "keel", 1, 0))
+YARD = Yard(WORKS, NEEDS)
+OTHER = Yard((("zz", 1),), ())
+
+
+def rows(*more):
+    return tuple((0, "hull", 5) if at == 0 else (at, "keel", 5) for at in range(11)) + more
+
+
+WRONG_NEEDS = (
+    ("hull", "zz", 1, 0),
+    ("zz", "hull", 1, 0),
+    ("Hull", "hull", 1, 0),
+    ("hull", "hull", -1, 0),
+    ("hull", "hull", 10, 0),
+    ("hull", "hull", True, 0),
+    ("hull", "hull", 1, False),
+    ("hull", "hull", 1, -6),
+    ("hull", "hull", 1, 100),
+    ("hull", "hull", 1, -100),
+    ("hull", "hull", "1", 0),
+    ("hull", "hull", 1),
+    ("hull", "hull", 1, 0, 0),
+    ["hull", "hull", 1, 0],
+    (["hull"], "hull", 1, 0),
+    (("hull",), "hull", 1, 0),
+    (YARD, YARD, 1, 0),
+    "hull hull 1 0",
+)
+
+WRONG_LATE = (
+    ((0, "hull", -1),),
+    ((0, "hull", True),),
+    ((0, "hull", "5"),),
+    ((0, "hull", None),),
+    ((0, "zz", 5),),
+    ((0, "Hull", 5),),
+    ((0, ["hull"], 5),),
+    ((-1, "hull", 5),),
+    ((100, "hull", 5),),
+    ((True, "hull", 5),),
+    ((False, "hull", 5),),
+    (("0", "hull", 5),),
+    ((0, "hull"),),
+    ((0, "hull", 5, 5),),
+    (0, "hull", 5),
+    ([0, "hull", 5],),
+    [(0, "hull", 5)],
+    ((0, "hull", 5), (0, "hull", 5)),
+    ((0, "hull", 5), (0, "hull", 6)),
+    ((0, "keel", 5), (0, "hull", 5)),
+    ((1, "hull", 5), (0, "keel", 5)),
+    ((0, "hull", 5), None),
+    rows((11, "keel", 5), (12, "keel", 5)),
+    {(0, "hull", 5): True},
+)
+
+
+def any_but(*right):
+    """All values of every kind but those that are right, True not being 1."""
+    return tuple(value for value in ANY if not any(value is own for own in right))
+
+
+INTEGERS = tuple(value for value in ANY if type(value) is int and value >= 0)
+
+WRONG = {
+    "yard": ("NoYard", tuple(value for value in ANY if not isinstance(value, Yard)) + (YARD.text, (WORKS, NEEDS))),
+    "name": ("NoWork", ANY + ("Hull", "hul", "hull ", ("hull",), ["hull"], b"hull", WORKS[0])),
+    "works": (
+        "BadWorks",
+        ANY
+        + (
+            list(WORKS),
+            dict(WORKS),
+            WORKS[::-1],
+            WORKS + WORKS[2:],
+            (list(WORKS[0]),) + WORKS[1:],
+            (("hull", 5, 0),),
+            (("hull",),),
+            (("hull", -1),),
+            (("hull", 100),),
+            (("hull", True),),
+            (("hull", "5"),),
+            (("hull", None),),
+            (("", 5),),
+            (("hull56789", 5),),
+            (("5hull", 5),),
+            (("Hull", 5),),
+            (("hu_ll", 5),),
+            (("hu ll", 5),),
+            (("hull\n", 5),),
+            (("hull", 5), ("hull", 6)),
+            ((5, "hull"),),
+            ((["hull"], 5),),
+            tuple((f"w{at:02}", 1) for at in range(13)),
+        ),
+    ),
+    "needs": (
+        "BadNeeds",
+        any_but(())
+        + tuple((need,) for need in WRONG_NEEDS)
+        + (
+            list(NEEDS),
+            NEEDS[::-1],
+            NEEDS + NEEDS[2:],
+            tuple(sorted(("hull", "keel", back, wait) for back in range(1, 10) for wait in range(5)))[:41],
+        ),
+    ),
+    "new need": ("BadNeed", ANY + WRONG_NEEDS + NEEDS),
+    "old need": ("NoNeed", ANY + WRONG_NEEDS + (("hull", "hull", 1, 0), ("paint", "keel", True, 0), list(NEEDS[0]))),
+    "days": ("BadDays", tuple(value for value in any_but(*INTEGERS)) + (0, 1, 100, "5", (5,))),
+    "many": ("BadNumber", tuple(value for value in ANY if type(value) is not int) + (0, -1, 10, "5", (5,))),
+    "delays": ("BadDelays", any_but(()) + WRONG_LATE),
+    "changes": (
+        "BadChanges",
+        any_but(()) + WRONG_LATE + (((0, "hull", 0),), ((0, "hull", 100),), ((0, "hull", 10**8),)),
+    ),
+    "ship": ("BadShip", tuple(value for value in any_but(*INTEGERS)) + (2001, 10**8, "5", (5,))),
+    "trail": (
+        "BadTrail",
+        ANY
+        + tuple((0, need[0] if isinstance(need, (tuple, list)) else need, (need,)) for need in WRONG_NEEDS)
+        + (
+            (-1, "hull", ()),
+            (True, "hull", ()),
+            (False, "hull", ()),
+            ("0", "hull", ()),
+            (0, "zz", ()),
+            (0, ["hull"], ()),
+            (0, "hull", []),
+            (0, "hull", list(NEEDS[:1])),
+            (0, "hull", None),
+            (0, "hull", NEEDS[0]),
+            (0, "hull"),
+            (0, "hull", (), ()),
+            [0, "hull", ()],
+            (0, "keel", NEEDS[:1]),
+            (0, "hull", NEEDS[:1] + NEEDS[1:2]),
+            (0, "hull", (("hull", "hull", 1, 0),)),
+            (0, "paint", (("paint", "keel", True, 0),)),
+        ),
+    ),
+    "part": (
+        "BadPart",
+        ANY
+        + (
+            ((0, 0),),
+            ((0, 0, 0, 0),),
+            ((0, 0, 0), (0, 0)),
+            ((0, 0, -1),),
+            ((0, 0, True),),
+            ((0, 0, "0"),),
+            ((0, 0, None),),
+            ([0, 0, 0],),
+            [(0, 0, 0)],
+            (0, 0, 0),
+            ((0, 0, 0),) * 201,
+        ),
+    ),
+}
+
+RIGHT = {
+    "yard": YARD,
+    "name": "hull",
+    "works": WORKS,
+    "needs": NEEDS,
+    "new need": ("hull", "hull", 1, -5),
+    "old need": NEEDS[2],
+    "days": 2,
+    "many": 9,
+    "delays": ((3, "keel", 40),),
+    "changes": ((0, "hull", 99),),
+    "ship": 2,
+    "trail": (0, "keel", NEEDS[1:2]),
+    "part": ((3, 0, 6),),
+    "value": None,
+}
+
+LATE = ("yard", "delays", "changes")
+
+FUNCTIONS = (
+    (Yard, ("works", "needs")),
+    (yards.days_of, ("yard", "name")),
+    (yards.needs_to, ("yard", "name")),
+    (yards.needs_from, ("yard", "name")),
+    (yards.upstream, ("yard", "name")),
+    (yards.more, ("yard", "new need")),
+    (yards.without, ("yard", "old need")),
+    (yards.lasting, ("yard", "name", "days")),
+    (yards.with_docks, ("yard", "name", "name", "many")),
+    (days.earliest_days, LATE + ("ship",)),
+    (days.earliest_day, LATE + ("name", "ship")),
+    (days.reason, LATE + ("name", "ship")),
+    (days.shows_reason, LATE + ("name", "ship", "value")),
+    (days.worth, LATE + ("trail",)),
+    (days.broken, LATE + ("part",)),
+    (days.is_earliest, LATE + ("part",)),
+    (rings.pace, ("yard", "name")),
+    (rings.paces, ("yard",)),
+    (rings.pace_of_all, ("yard",)),
+    (rings.ring, ("yard", "name")),
+    (rings.shows_ring, ("yard", "name", "value")),
+    (rings.heights, ("yard", "name")),
+    (rings.shows_heights, ("yard", "name", "value")),
+    (rings.tight, ("yard", "name")),
+    (rings.beat, ("yard", "name")),
+)
+
+
+class WrongValues(unittest.TestCase):
+    def refused(self, function, arguments, kind, value):
+        with self.assertRaises(errors.YardError) as caught:
+            function(*arguments)
+        self.assertEqual(type(caught.exception).__name__, kind, (function, arguments))
+        self.assertIs(caught.exception.value, value, (function, arguments))
+
+    def test_right_values_are_taken(self):
+        for function, kinds in FUNCTIONS:
+            function(*[RIGHT[kind] for kind in kinds])
+
+    def test_each_wrong_value_raises_its_error_with_this_value(self):
+        for function, kinds in FUNCTIONS:
+            for at, kind in enumerate(kinds):
+                for value in WRONG[kind][1] if kind in WRONG else ():
+                    arguments = [RIGHT[own] for own in kinds]
+                    arguments[at] = value
+                    self.refused(function, arguments, WRONG[kind][0], value)
+
+    def test_of_several_wrong_values_the_first_is_told(self):
+        for function, kinds in FUNCTIONS:
+            wrong = [at for at, kind in enumerate(kinds) if kind in WRONG]
+            for first, second in combinations(wrong, 2):
+                for value in WRONG[kinds[first]][1]:
+                    for other in WRONG[kinds[second]][1][:6]:
+                        arguments = [RIGHT[own] for own in kinds]
+                        arguments[first] = value
+                        arguments[second] = other
+                        self.refused(function, arguments, WRONG[kinds[first]][0], value)
+
+    def test_all_values_wrong(self):
+        for function, kinds in FUNCTIONS:
+            for value in (None, True, [], "", -1):
+                self.refused(function, [value for _ in kinds], WRONG[kinds[0]][0], value)
+
+    def test_works_of_another_yard_are_no_works_of_this(self):
+        for function, kinds in FUNCTIONS:
+            if kinds[0] == "yard" and len(kinds) > 1:
+                arguments = [OTHER] + [RIGHT[own] for own in kinds[1:]]
+                self.refused(function, arguments, WRONG[kinds[1]][0], arguments[1])
+
+    def test_a_yard_stands_as_it_was_behind_refused_calls(self):
+        text = YARD.text
+        self.test_each_wrong_value_raises_its_error_with_this_value()
+        self.assertEqual((YARD.works, YARD.needs, YARD.text), (WORKS, NEEDS, text))
+        self.assertEqual(YARD.names, ("hull", "keel", "paint"))
+
+    def test_wrong_lists_and_dicts_are_not_changed(self):
+        value = [["hull", 5], {"keel": [3]}]
+        for function, kinds in FUNCTIONS:
+            for at, kind in enumerate(kinds):
+                arguments = [RIGHT[own] for own in kinds]
+                arguments[at] = value
+                try:
+                    function(*arguments)
+                except errors.YardError:
+                    pass
+        self.assertEqual(value, [["hull", 5], {"keel": [3]}])
+
+    def test_shows_functions_tell_a_bool_for_any_value(self):
+        for function, kinds in FUNCTIONS:
+            if kinds[-1] == "value":
+                for value in ANY:
+                    told = function(*[RIGHT[own] for own in kinds[:-1]], value)
+                    self.assertIs(told, False, (function, value))
+
+
+if __name__ == "__main__":
+    unittest.main()
