@@ -58,8 +58,8 @@ def shows_ring(yard, name, value):
     check_yard(yard)
     check_name(yard, name)
     slowest, wanted = slowest_ring(yard, name)
-    if slowest is None or value is None:
-        return slowest is None and value is None
+    if value is None:
+        return slowest is None
     if not is_ring(yard, value) or value[0][0] not in leading_to(yard.needs, name):
         return False
     days, back = days_and_back(weights_of(yard), value)

@@ -184,12 +184,12 @@ def need_of(words):
 
 
 def takes_work(works, needs, work):
-    """Whether this may be the next work of a text that has told so much."""
+    """Whether this, or None, may be the next work of a text that has told so much."""
     return not needs and are_works(tuple(works + [work]))
 
 
 def takes_need(works, needs, need):
-    """Whether this may be the next NEED of a text that has told so much."""
+    """Whether this, or None, may be the next NEED of a text that has told so much."""
     lasts = {name: days for name, days in works}
     told = tuple(needs + [need])
     return are_needs(lasts, told) and order_within_ship(list(lasts), told) is not None
@@ -205,9 +205,9 @@ def read_yard(text):
         words = line.split(" ")
         work = work_of(words)
         need = need_of(words)
-        if work is not None and takes_work(works, needs, work):
+        if takes_work(works, needs, work):
             works.append(work)
-        elif need is not None and takes_need(works, needs, need):
+        elif takes_need(works, needs, need):
             needs.append(need)
         else:
             raise BadYard(number)

@@ -227,6 +227,10 @@ class Changing(unittest.TestCase):
         self.assertEqual(refusal(yards.lasting, YARD, "keel", 100), ("BadDays", 100))
         self.assertEqual(refusal(yards.lasting, YARD, "keel", -1), ("BadDays", -1))
         self.assertEqual(yards.lasting(YARD, "keel", 3), YARD)
+        waiting = Yard((("a", 1), ("b", 1)), (("b", "b", 1, 9),))
+        for name in ("a", "b"):
+            self.assertEqual(refusal(yards.lasting, waiting, name, -1), ("BadDays", -1))
+            self.assertEqual(yards.lasting(waiting, name, 0).needs, waiting.needs)
 
     def test_lasting_takes_all_needs_from_the_work(self):
         works = (("a", 9), ("b", 9))
