@@ -3,7 +3,7 @@
 from afloatintime.errors import BadPart, BadShip, BadTrail
 from afloatintime.lateness import by_spot, check_lateness
 from afloatintime.reckoning import first_days
-from afloatintime.values import is_between, is_from, is_one_of, is_tuple_of
+from afloatintime.values import is_between, is_from, is_one_of, is_row_of_days, is_tuple_of
 from afloatintime.yards import check_name, is_need_of, weights_of
 
 MOST_SHIP = 2000
@@ -121,8 +121,7 @@ def is_part(yard, value):
     """Whether any value is a part of a PLAN: days of all works of the first ships."""
     if not isinstance(value, tuple) or not 1 <= len(value) <= MOST_PART:
         return False
-    many = len(yard.names)
-    return all([is_tuple_of(days, many) and all([is_from(day, 0) for day in days]) for days in value])
+    return all([is_row_of_days(days, len(yard.names)) for days in value])
 
 
 def check_part(yard, delays, changes, part):

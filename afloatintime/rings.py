@@ -4,7 +4,7 @@ from math import gcd, lcm
 
 from afloatintime.climbs import climb, days_and_back, links_to, slowest_ring
 from afloatintime.paths import leading_to
-from afloatintime.values import fraction, is_fraction, is_tuple_of
+from afloatintime.values import fraction, is_fraction, is_less, is_tuple_of
 from afloatintime.yards import check_name, check_yard, is_need_of, weights_of
 
 
@@ -25,7 +25,7 @@ def pace_of_all(yard):
     """The greatest of all paces."""
     greatest = (0, 1)
     for _, found in paces(yard):
-        if found[0] * greatest[1] > greatest[0] * found[1]:
+        if is_less(greatest, found):
             greatest = found
     return greatest
 

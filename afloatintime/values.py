@@ -27,6 +27,11 @@ def is_tuple_of(value, many):
     return isinstance(value, tuple) and len(value) == many
 
 
+def is_row_of_days(value, many):
+    """Whether any value is a tuple of so many DAYS."""
+    return is_tuple_of(value, many) and all([is_from(day, 0) for day in value])
+
+
 def is_name(value):
     """Whether any value is a NAME."""
     if not isinstance(value, str) or not 1 <= len(value) <= MOST_SIGNS:
@@ -52,6 +57,11 @@ def is_fraction(value):
 def is_ascending(rows):
     """Whether each of the rows, which can be compared, is above the one ahead of it."""
     return all([rows[at] < rows[at + 1] for at in range(len(rows) - 1)])
+
+
+def is_less(one, other):
+    """Whether a FRACTION is less than another one."""
+    return one[0] * other[1] < other[0] * one[1]
 
 
 def fraction(top, bottom):

@@ -25,6 +25,18 @@ class Examples(unittest.TestCase):
     def test_rings(self):
         self.assertEqual(self.held("rings"), 8)
 
+    def test_tables(self):
+        self.assertEqual(self.held("tables"), 10)
+
+    def test_late(self):
+        self.assertEqual(self.held("late"), 9)
+
+    def test_room(self):
+        self.assertEqual(self.held("room"), 8)
+
+    def test_wishes(self):
+        self.assertEqual(self.held("wishes"), 11)
+
 
 if __name__ == "__main__":
     unittest.main()

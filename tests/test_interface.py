@@ -42,6 +42,43 @@ INTERFACE = {
         "shows_ring": "yard name value",
         "tight": "yard name",
     },
+    "tables": {
+        "day_of": LATE + "name ship",
+        "ships_by": LATE + "name day",
+        "shows_table": LATE + "value",
+        "steady": LATE + "name",
+        "table": LATE,
+    },
+    "late": {
+        "greatest_moved": LATE + "name",
+        "last_moved": LATE + "name",
+        "moved": LATE,
+        "moved_at": LATE + "name ship",
+        "quiet_from": LATE,
+        "unmoved": LATE,
+    },
+    "room": {
+        "binding": "yard spot goal",
+        "free_room": "yard spot",
+        "lasting_room": "yard spot goal",
+        "pair_room": "yard one other goal",
+        "room": "yard spot goal",
+        "rooms": "yard name goal",
+        "shows_binding": "yard spot goal value",
+        "tight_works": "yard goal",
+    },
+    "wishes": {
+        "can_keep": "yard rhythm",
+        "first_day": "yard name pace",
+        "height": "yard rhythm name",
+        "latest": "yard wishes name ship",
+        "latest_in": "yard rhythm name ship",
+        "never": "yard rhythm",
+        "shows_never": "yard rhythm value",
+        "shows_too_late": "yard wishes value",
+        "slack": "yard wishes name ship",
+        "too_late": "yard wishes",
+    },
 }
 
 YARD = importlib.import_module("afloatintime.yards").Yard((("a", 2), ("b", 1)), (("a", "a", 1, 0), ("a", "b", 0, 0)))
@@ -61,6 +98,14 @@ VALUES = {
     "trail": (1, "a", (("a", "b", 0, 0),)),
     "text": YARD.text,
     "value": None,
+    "day": 20,
+    "spot": (4, "a"),
+    "one": (2, "a"),
+    "other": (3, "a"),
+    "goal": "b",
+    "wishes": ((1, "a", 0), (5, "b", 12)),
+    "rhythm": ("b", 1, (5, 2)),
+    "pace": (5, 2),
 }
 
 

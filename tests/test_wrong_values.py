@@ -3,7 +3,7 @@
 import unittest
 from itertools import combinations
 
-from afloatintime import days, errors, rings, yards
+from afloatintime import days, errors, late, rings, room, tables, wishes, yards
 from afloatintime.yards import Yard
 from tests.samples import ANY
 
@@ -61,8 +61,30 @@ WRONG_LATE = (
     ((0, "keel", 5), (0, "hull", 5)),
     ((1, "hull", 5), (0, "keel", 5)),
     ((0, "hull", 5), None),
-    rows((11, "keel", 5), (12, "keel", 5)),
     {(0, "hull", 5): True},
+)
+
+TOO_MANY = (rows((11, "keel", 5), (12, "keel", 5)),)
+
+WRONG_PACES = (
+    (16, 2),
+    (0, 2),
+    (-8, 1),
+    (-1, 2),
+    (8, 0),
+    (8, -1),
+    (True, 1),
+    (8, True),
+    ("8", 1),
+    (8, "1"),
+    (8, None),
+    (8,),
+    (8, 1, 1),
+    [8, 1],
+    ((8, 1),),
+    (YARD, 1),
+    8,
+    "8",
 )
 
 
@@ -71,6 +93,7 @@ def any_but(*right):
     return tuple(value for value in ANY if not any(value is own for own in right))
 
 
+FAR = 10**18
 INTEGERS = tuple(value for value in ANY if type(value) is int and value >= 0)
 
 WRONG = {
@@ -120,12 +143,58 @@ WRONG = {
     "old need": ("NoNeed", ANY + WRONG_NEEDS + (("hull", "hull", 1, 0), ("paint", "keel", True, 0), list(NEEDS[0]))),
     "days": ("BadDays", tuple(value for value in any_but(*INTEGERS)) + (0, 1, 100, "5", (5,))),
     "many": ("BadNumber", tuple(value for value in ANY if type(value) is not int) + (0, -1, 10, "5", (5,))),
-    "delays": ("BadDelays", any_but(()) + WRONG_LATE),
+    "delays": ("BadDelays", any_but(()) + WRONG_LATE + TOO_MANY),
     "changes": (
         "BadChanges",
-        any_but(()) + WRONG_LATE + (((0, "hull", 0),), ((0, "hull", 100),), ((0, "hull", 10**8),)),
+        any_but(()) + WRONG_LATE + TOO_MANY + (((0, "hull", 0),), ((0, "hull", 100),), ((0, "hull", 10**8),)),
     ),
     "ship": ("BadShip", tuple(value for value in any_but(*INTEGERS)) + (2001, 10**8, "5", (5,))),
+    "far ship": ("BadShip", any_but(*INTEGERS) + (FAR + 1, "5", (5,), 10**30)),
+    "any ship": ("BadShip", any_but(*INTEGERS) + (-(10**30), "5", (5,))),
+    "day": ("BadDay", any_but(*INTEGERS) + (FAR + 1, "5", (5,), 10**30)),
+    "spot": (
+        "BadSpot",
+        ANY
+        + (
+            (-1, "hull"),
+            (FAR + 1, "hull"),
+            (True, "hull"),
+            (False, "hull"),
+            ("0", "hull"),
+            (None, "hull"),
+            (0, "zz"),
+            (0, "Hull"),
+            (0, ["hull"]),
+            (0, ("hull",)),
+            (0, YARD),
+            (0, 0),
+            ("hull", 0),
+            (0, "hull", 0),
+            (0,),
+            [0, "hull"],
+            {0: "hull"},
+            ((0, "hull"),),
+        ),
+    ),
+    "wishes": ("BadWishes", ANY + WRONG_LATE + (tuple((at, "keel", 5) for at in range(25)), (1, "keel", 5))),
+    "rhythm": (
+        "BadRhythm",
+        ANY
+        + tuple(("hull", 9, pace) for pace in WRONG_PACES + ANY)
+        + tuple(("hull", day, (8, 1)) for day in (-1, True, False, "9", None, (9,)))
+        + (
+            ("zz", 9, (8, 1)),
+            ("Hull", 9, (8, 1)),
+            (["hull"], 9, (8, 1)),
+            (0, 9, (8, 1)),
+            (None, 9, (8, 1)),
+            ("hull", 9),
+            ("hull", 9, (8, 1), 0),
+            ["hull", 9, (8, 1)],
+            (9, "hull", (8, 1)),
+        ),
+    ),
+    "pace": ("BadPace", ANY + WRONG_PACES),
     "trail": (
         "BadTrail",
         ANY
@@ -169,6 +238,9 @@ WRONG = {
     ),
 }
 
+# What a second parameter of a kind wants is the same, but another value is right.
+WRONG["other spot"] = WRONG["spot"]
+
 RIGHT = {
     "yard": YARD,
     "name": "hull",
@@ -184,6 +256,14 @@ RIGHT = {
     "trail": (0, "keel", NEEDS[1:2]),
     "part": ((3, 0, 6),),
     "value": None,
+    "far ship": FAR,
+    "any ship": 2,
+    "day": FAR,
+    "spot": (2, "keel"),
+    "other spot": (3, "keel"),
+    "wishes": ((0, "hull", 0), (99, "paint", 10**9)),
+    "rhythm": ("hull", 0, (8, 1)),
+    "pace": (8, 1),
 }
 
 LATE = ("yard", "delays", "changes")
@@ -214,6 +294,35 @@ FUNCTIONS = (
     (rings.shows_heights, ("yard", "name", "value")),
     (rings.tight, ("yard", "name")),
     (rings.beat, ("yard", "name")),
+    (tables.table, LATE),
+    (tables.shows_table, LATE + ("value",)),
+    (tables.day_of, LATE + ("name", "far ship")),
+    (tables.ships_by, LATE + ("name", "day")),
+    (tables.steady, LATE + ("name",)),
+    (late.moved, LATE),
+    (late.moved_at, LATE + ("name", "far ship")),
+    (late.last_moved, LATE + ("name",)),
+    (late.greatest_moved, LATE + ("name",)),
+    (late.unmoved, LATE),
+    (late.quiet_from, LATE),
+    (room.room, ("yard", "spot", "name")),
+    (room.lasting_room, ("yard", "spot", "name")),
+    (room.free_room, ("yard", "spot")),
+    (room.rooms, ("yard", "name", "name")),
+    (room.tight_works, ("yard", "name")),
+    (room.binding, ("yard", "spot", "name")),
+    (room.shows_binding, ("yard", "spot", "name", "value")),
+    (room.pair_room, ("yard", "spot", "other spot", "name")),
+    (wishes.latest, ("yard", "wishes", "name", "any ship")),
+    (wishes.slack, ("yard", "wishes", "name", "any ship")),
+    (wishes.too_late, ("yard", "wishes")),
+    (wishes.shows_too_late, ("yard", "wishes", "value")),
+    (wishes.can_keep, ("yard", "rhythm")),
+    (wishes.first_day, ("yard", "name", "pace")),
+    (wishes.height, ("yard", "rhythm", "name")),
+    (wishes.latest_in, ("yard", "rhythm", "name", "any ship")),
+    (wishes.never, ("yard", "rhythm")),
+    (wishes.shows_never, ("yard", "rhythm", "value")),
 )
 
 
