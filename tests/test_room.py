@@ -321,6 +321,10 @@ class Bindings(unittest.TestCase):
             self.assertIs(room.shows_binding(HULLS, (5, "hull"), "float", value), False, value)
         for value in ((-5, (2, 1)), (10**30, (2, 1)), (5, (1,)), (5, (2,)), (5, (2, 1), ()), ("5", (2, 1)), (5, None)):
             self.assertIs(room.shows_binding(HULLS, (5, "hull"), "float", value), False, value)
+        for n, shown in ((1, True), (True, False)):
+            self.assertIs(room.shows_binding(HULLS, (1, "hull"), "float", (n, (2, 1))), shown)
+        for n, shown in ((0, True), (False, False)):
+            self.assertIs(room.shows_binding(HULLS, (0, "hull"), "float", (n, (2, 1))), shown)
         for value in ANY + ((5, ()), (5, (1,))):
             self.assertIs(room.shows_binding(HULLS, (5, "float"), "dock", value), value is None, value)
 

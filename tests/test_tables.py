@@ -4,7 +4,7 @@ import random
 import unittest
 
 from afloatintime import days, rings, tables
-from afloatintime.errors import BadDay, BadShip, TooLong
+from afloatintime.errors import BadChanges, BadDay, BadDelays, BadShip, NoWork, TooLong
 from afloatintime.yards import Yard
 from tests import plain, plain_far
 from tests.samples import ANY, near, random_rows, random_yards
@@ -123,6 +123,23 @@ class ShortestTables(unittest.TestCase):
             with self.assertRaises(TooLong):
                 look(more, (), (), "w", *(() if look is tables.steady else (3,)))
 
+    def test_too_long_is_told_behind_all_other_errors(self):
+        yard = wheels((9, 4), (9, 2), (7,))
+        for look, arguments, kind in (
+            (tables.table, ([], ()), BadDelays),
+            (tables.table, ((), []), BadChanges),
+            (tables.day_of, ((), (), "zz", 3), NoWork),
+            (tables.day_of, ((), (), "z", -1), BadShip),
+            (tables.day_of, ((), (), "z", 3), TooLong),
+            (tables.ships_by, ((), (), "zz", 3), NoWork),
+            (tables.ships_by, ((), (), "z", FAR + 1), BadDay),
+            (tables.ships_by, ((), (), "z", 3), TooLong),
+            (tables.steady, ((), (), "zz"), NoWork),
+            (tables.steady, ((), (), "z"), TooLong),
+        ):
+            with self.assertRaises(kind):
+                look(yard, *arguments)
+
     def test_a_round_of_999_and_of_1001_ships(self):
         many = wheels((9, 9, 9, 9, 1), (9, 9, 9))
         self.assertEqual(tables.table(many, (), ())[:2], (0, 999))
@@ -146,6 +163,19 @@ class ShortestTables(unittest.TestCase):
         self.assertEqual(tables.table(SLOW, (), ((99, "dock", 1),))[:2], (0, 1))
         self.assertEqual(tables.table(SLOW, (), ((99, "dock", 2),))[:2], (102, 1))
         self.assertEqual(tables.table(SLOW, (), ((99, "dock", 3),))[:2], (104, 1))
+
+    def test_a_round_is_looked_at_whole(self):
+        # The rings of b and d together wait for no other one in three of six ships: in the others a is ahead for long.
+        needs = (("a", "a", 1, 0), ("a", "c", 0, 20), ("b", "b", 2, 0), ("b", "c", 0, -20), ("d", "d", 3, 0))
+        yard = yard_of({"a": 9, "b": 20, "c": 0, "d": 30}, *needs, ("d", "c", 0, -6))
+        delays = ((0, "b", 40), (1, "d", 20))
+        rows = rows_of(yard, delays, (), 200)
+        self.assertEqual(plain_far.least_round(rows, plain_far.steps(yard.works, yard.needs), 60), (24, 6))
+        self.assertEqual(tables.table(yard, delays, ()), (24, 6, tuple(rows[:30])))
+        self.assertIs(tables.shows_table(yard, delays, (), (24, 6, tuple(rows[:30]))), True)
+        for first in range(24):
+            value = (first, 6, tuple(rows[: first + 6]))
+            self.assertIs(tables.shows_table(yard, delays, (), value), False)
 
     def test_great_days_and_numbers(self):
         yard = Yard((("a", 99),), (("a", "a", 9, 99),))
@@ -251,6 +281,10 @@ class ShownTables(unittest.TestCase):
         self.assertIs(tables.shows_table(RACING, (), ((99, "a", 1),), value), False)
         self.assertIs(tables.shows_table(RACING, (), ((99, "c", 99),), value), True)
         self.assertIs(tables.shows_table(RACING, (), ((90, "b", 1),), value), False)
+        far = yard_of({"a": 3, "b": 2}, ("a", "b", 9, 0))
+        for first in range(12):
+            value = (first, 1, tuple(rows_of(far, ((0, "a", 5),), (), first + 1)))
+            self.assertIs(tables.shows_table(far, ((0, "a", 5),), (), value), first >= 10)
 
     def test_any_value(self):
         for value in ANY + ((0, 1, ()), (0, 0, ()), (-1, 2, ((0, 3),)), (0, 1, [(0, 3)]), (0, 1, ([0, 3],))):
