@@ -54,6 +54,11 @@ def is_fraction(value):
     return is_integer(top) and is_from(bottom, 1) and gcd(top, bottom) == 1
 
 
+def is_pace(value):
+    """Whether any value is a FRACTION from 0 on."""
+    return is_fraction(value) and value[0] >= 0
+
+
 def is_ascending(rows):
     """Whether each of the rows, which can be compared, is above the one ahead of it."""
     return all([rows[at] < rows[at + 1] for at in range(len(rows) - 1)])

@@ -6,7 +6,7 @@ from afloatintime.days import earliest_day, reason
 from afloatintime.errors import BadPace, BadRhythm, BadShip, BadWishes, TooFast
 from afloatintime.lateness import are_dated, by_spot
 from afloatintime.latest import latest_rows
-from afloatintime.values import fraction, is_between, is_fraction, is_from, is_less, is_one_of, is_tuple_of
+from afloatintime.values import fraction, is_between, is_from, is_less, is_one_of, is_pace, is_tuple_of
 from afloatintime.yards import check_name, check_yard, weights_of
 
 MOST_WISHES = 24
@@ -69,11 +69,6 @@ def shows_too_late(yard, wishes, value):
         return False
     ship, name, day = wishes[value[0]]
     return leads_beyond(yard, value[1], name, ship, (day, 1))
-
-
-def is_pace(value):
-    """Whether any value is a FRACTION from 0 on."""
-    return is_fraction(value) and value[0] >= 0
 
 
 def check_rhythm(yard, rhythm):

@@ -37,6 +37,18 @@ class Examples(unittest.TestCase):
     def test_wishes(self):
         self.assertEqual(self.held("wishes"), 11)
 
+    def test_docks(self):
+        self.assertEqual(self.held("docks"), 10)
+
+    def test_quickening(self):
+        self.assertEqual(self.held("quickening"), 13)
+
+    def test_alike(self):
+        self.assertEqual(self.held("alike"), 9)
+
+    def test_keeping(self):
+        self.assertEqual(self.held("keeping"), 8)
+
 
 if __name__ == "__main__":
     unittest.main()

@@ -9,6 +9,7 @@ from pathlib import Path
 import afloatintime
 
 LATE = "yard delays changes "
+PRICED = "yard prices "
 INTERFACE = {
     "yards": {
         "Yard": "works needs",
@@ -79,7 +80,47 @@ INTERFACE = {
         "slack": "yard wishes name ship",
         "too_late": "yard wishes",
     },
+    "docks": {
+        "best_paces": "yard docks name most",
+        "fewest": "yard docks name pace",
+        "shows_too_few": "yard docks name pace most value",
+        "too_few": "yard docks name pace most",
+        "with_more": "yard docks more",
+    },
+    "quickening": {
+        "bar": PRICED + "name pace",
+        "cheapest": PRICED + "name pace",
+        "cost": PRICED + "bought",
+        "flow": PRICED + "name pace",
+        "flow_worth": PRICED + "name pace flow",
+        "quickened": PRICED + "bought",
+        "shows_bar": PRICED + "name pace value",
+        "shows_cheapest": PRICED + "name pace value",
+        "shows_flow": PRICED + "name pace value",
+    },
+    "alike": {
+        "alike_always": "one other",
+        "apart": "one other names",
+        "idle": "yard",
+        "lean": "yard",
+        "needless": "yard",
+    },
+    "keeping": {"Log": "yard"},
 }
+
+# The methods that are told for each class, and its attributes.
+METHODS = {
+    "Log": {
+        "began": "name ship day",
+        "lasted": "name ship days",
+        "unsay": "name ship",
+        "day": "name ship",
+        "done": "name ship",
+        "clashes": "",
+        "copy": "",
+    },
+}
+ATTRIBUTES = {"Yard": "works needs names text", "Log": "yard told work"}
 
 YARD = importlib.import_module("afloatintime.yards").Yard((("a", 2), ("b", 1)), (("a", "a", 1, 0), ("a", "b", 0, 0)))
 VALUES = {
@@ -106,12 +147,28 @@ VALUES = {
     "wishes": ((1, "a", 0), (5, "b", 12)),
     "rhythm": ("b", 1, (5, 2)),
     "pace": (5, 2),
+    "docks": (("crew", (0,)),),
+    "more": (3,),
+    "most": 1,
+    "prices": (("a", 3, 0),),
+    "bought": (("a", 1),),
+    "flow": ((("a", "a", 1, 0), 3),),
+    "names": ("a", "b"),
+}
+# Where a parameter of the same name wants another value.
+OTHERS = {
+    ("more", "need"): ("b", "a", 2, 0),
+    ("without", "need"): ("a", "b", 0, 0),
+    ("quickening", "pace"): 1,
+    ("alike", "one"): YARD,
+    ("alike", "other"): YARD,
 }
 
 
-def value_for(function, parameter):
-    if parameter == "need":
-        return ("b", "a", 2, 0) if function == "more" else ("a", "b", 0, 0)
+def value_for(module, function, parameter):
+    for key in ((function, parameter), (module, parameter)):
+        if key in OTHERS:
+            return OTHERS[key]
     return VALUES[parameter]
 
 
@@ -136,19 +193,64 @@ class Interface(unittest.TestCase):
     def test_arguments_pass_by_position_and_by_name(self):
         for module, name, parameters in self.each():
             found = getattr(importlib.import_module(f"afloatintime.{module}"), name)
-            values = {parameter: value_for(name, parameter) for parameter in parameters}
+            values = {parameter: value_for(module, name, parameter) for parameter in parameters}
             backwards = {parameter: values[parameter] for parameter in reversed(parameters)}
             told = found(*values.values())
             self.assertEqual(told, found(**values), name)
             self.assertEqual(told, found(**backwards), name)
 
     def test_arguments_are_not_changed(self):
-        before = repr([value for key, value in VALUES.items() if key != "yard"]), YARD.text
+        held = [value for value in list(VALUES.values()) + list(OTHERS.values()) if value is not YARD]
+        before = repr(held), YARD.text
         for module, name, parameters in self.each():
             found = getattr(importlib.import_module(f"afloatintime.{module}"), name)
-            found(*[value_for(name, parameter) for parameter in parameters])
-        self.assertEqual(before, (repr([value for key, value in VALUES.items() if key != "yard"]), YARD.text))
+            found(*[value_for(module, name, parameter) for parameter in parameters])
+        self.assertEqual(before, (repr(held), YARD.text))
         self.assertEqual((YARD.works, YARD.needs), (VALUES["works"], VALUES["needs"]))
+
+
+class Classes(unittest.TestCase):
+    def each(self):
+        for module, functions in INTERFACE.items():
+            for name in functions:
+                if name in ATTRIBUTES:
+                    yield module, name
+
+    def test_each_method_is_defined_in_its_class(self):
+        for module, name in self.each():
+            path = Path(afloatintime.__file__).parent / f"{module}.py"
+            body = [node for node in ast.parse(path.read_text()).body if getattr(node, "name", "") == name][0].body
+            defined = [node.name for node in body if isinstance(node, ast.FunctionDef)]
+            for method in METHODS.get(name, ()):
+                self.assertIn(method, defined)
+
+    def test_parameters_of_methods(self):
+        for module, name in self.each():
+            found = getattr(importlib.import_module(f"afloatintime.{module}"), name)
+            for method, parameters in METHODS.get(name, {}).items():
+                told = list(inspect.signature(getattr(found, method)).parameters)[1:]
+                self.assertEqual(told, parameters.split(), method)
+
+    def test_attributes_stand_from_the_first(self):
+        for module, name in self.each():
+            made = getattr(importlib.import_module(f"afloatintime.{module}"), name)
+            held = made(*[value_for(module, name, parameter) for parameter in INTERFACE[module][name].split()])
+            for attribute in ATTRIBUTES[name].split():
+                self.assertTrue(hasattr(held, attribute), attribute)
+
+    def test_logs_take_arguments_by_position_and_by_name(self):
+        made = importlib.import_module("afloatintime.keeping").Log
+        one, other = made(YARD), made(yard=YARD)
+        one.began("a", 1, 9)
+        other.began(day=9, ship=1, name="a")
+        one.lasted("b", 2, 7)
+        other.lasted(ship=2, days=7, name="b")
+        self.assertEqual(one.told, other.told)
+        self.assertEqual(one.day("b", 2), other.day(ship=2, name="b"))
+        self.assertEqual(one.done("b", 2), other.done(ship=2, name="b"))
+        one.unsay("a", 1)
+        other.unsay(ship=1, name="a")
+        self.assertEqual(one, other)
 
 
 if __name__ == "__main__":

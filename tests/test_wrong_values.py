@@ -3,7 +3,8 @@
 import unittest
 from itertools import combinations
 
-from afloatintime import days, errors, late, rings, room, tables, wishes, yards
+from afloatintime import alike, days, docks, errors, late, quickening, rings, room, tables, wishes, yards
+from afloatintime.keeping import Log
 from afloatintime.yards import Yard
 from tests.samples import ANY
 
@@ -238,8 +239,154 @@ WRONG = {
     ),
 }
 
+WRONG_DOCKS = (
+    (("Crew", (0,)),),
+    (("", (0,)),),
+    (("crew56789", (0,)),),
+    (("5crew", (0,)),),
+    ((["crew"], (0,)),),
+    ((0, (0,)),),
+    ((None, (0,)),),
+    (("crew", ()),),
+    (("crew", 0),),
+    (("crew", [0]),),
+    (("crew", (3,)),),
+    (("crew", (-1,)),),
+    (("crew", (True,)),),
+    (("crew", ("0",)),),
+    (("crew", (None,)),),
+    (("crew", ((0,),)),),
+    (("crew", (0, 0)),),
+    (("crew", (1, 0)),),
+    (("crew", (0,), 0),),
+    (("crew",),),
+    (["crew", (0,)],),
+    ("crew", (0,)),
+    [("crew", (0,))],
+    {"crew": (0,)},
+    (("crew", (0,)), ("crew", (1,))),
+    (("crew", (0,)), ("slip", (0,))),
+    (("crew", (0, 1)), ("slip", (1, 2))),
+    (("slip", (0,)), ("crew", (1,))),
+    (("crew", (0,)), None),
+    tuple((f"d{at}", (at,)) for at in range(5)),
+)
+
+WRONG.update(
+    {
+        "docks": ("BadDocks", ANY + WRONG_DOCKS),
+        "more": (
+            "BadMore",
+            ANY + ((-1, 0), (9, 0), (0, 10), (True, 0), (0, False), ("0", 0), (None, 0), (0,), (0, 0, 0), [0, 0], ((0, 0),)),
+        ),
+        "most": ("BadNumber", any_but(*[value for value in INTEGERS if value <= 8]) + (9, 10**8, "5", (5,))),
+        "prices": (
+            "BadPrices",
+            any_but(())
+            + (
+                (("hull", 0, 2),),
+                (("hull", 1000, 2),),
+                (("hull", -5, 2),),
+                (("hull", True, 2),),
+                (("hull", "5", 2),),
+                (("hull", None, 2),),
+                (("hull", 5, 1),),
+                (("hull", 5, 6),),
+                (("hull", 5, -1),),
+                (("keel", 5, True),),
+                (("keel", 5, "2"),),
+                (("zz", 5, 0),),
+                (("Hull", 5, 2),),
+                ((["hull"], 5, 2),),
+                (("hull", 5),),
+                (("hull", 5, 2, 0),),
+                (["hull", 5, 2],),
+                ("hull", 5, 2),
+                [("hull", 5, 2)],
+                {"hull": (5, 2)},
+                (("hull", 5, 2), ("hull", 5, 2)),
+                (("hull", 5, 2), ("hull", 6, 3)),
+                (("keel", 5, 2), ("hull", 5, 2)),
+                (("hull", 5, 2), None),
+            ),
+        ),
+        "bought": (
+            "BadBought",
+            any_but(())
+            + (
+                (("hull", 0),),
+                (("hull", 4),),
+                (("hull", -1),),
+                (("hull", True),),
+                (("hull", "1"),),
+                (("hull", None),),
+                (("keel", 4),),
+                (("paint", 1),),
+                (("zz", 1),),
+                ((["hull"], 1),),
+                (("hull",),),
+                (("hull", 1, 1),),
+                (["hull", 1],),
+                ("hull", 1),
+                [("hull", 1)],
+                {"hull": 1},
+                (("hull", 1), ("hull", 1)),
+                (("hull", 1), ("hull", 2)),
+                (("keel", 1), ("hull", 1)),
+                (("hull", 1), None),
+            ),
+        ),
+        "whole pace": ("BadPace", any_but(*INTEGERS) + (100000, 10**8, "5", (5,), (5, 1), 10**30)),
+        "flow": (
+            "BadFlow",
+            any_but(())
+            + tuple(((need, 1),) for need in WRONG_NEEDS)
+            + (
+                tuple((need, 0) for need in NEEDS),
+                tuple((need, -1) for need in NEEDS),
+                tuple((need, True) for need in NEEDS),
+                tuple((need, "1") for need in NEEDS),
+                tuple((need, 1) for need in NEEDS[::-1]),
+                tuple((need, 1) for need in NEEDS) + ((NEEDS[2], 1),),
+                tuple((need, 1) for need in NEEDS[:2]),
+                tuple((need, 1 + at) for at, need in enumerate(NEEDS)),
+                tuple([need, 1] for need in NEEDS),
+                [(need, 1) for need in NEEDS],
+                {need: 1 for need in NEEDS},
+                tuple((need, 1, 1) for need in NEEDS),
+                NEEDS,
+            ),
+        ),
+        "names": (
+            "BadNames",
+            ANY
+            + (
+                ("zz",),
+                ("hull", "zz"),
+                ("Hull",),
+                ("keel", "hull"),
+                ("hull", "hull"),
+                ("hull", None),
+                ("hull", 0),
+                (["hull"],),
+                (("hull",),),
+                ["hull"],
+                {"hull": 1},
+                "hull",
+                b"hull",
+            ),
+        ),
+        "log ship": ("BadShip", any_but(*INTEGERS) + (1000, 10**8, "5", (5,))),
+        "log day": ("BadDay", any_but(*INTEGERS) + (100000, 10**8, "5", (5,))),
+        "log days": ("BadDays", any_but(*INTEGERS) + (1000, 10**8, "5", (5,))),
+    }
+)
+
 # What a second parameter of a kind wants is the same, but another value is right.
 WRONG["other spot"] = WRONG["spot"]
+WRONG["fast pace"] = WRONG["pace"]
+WRONG["barred pace"] = WRONG["whole pace"]
+WRONG["other yard"] = WRONG["yard"]
 
 RIGHT = {
     "yard": YARD,
@@ -264,9 +411,45 @@ RIGHT = {
     "wishes": ((0, "hull", 0), (99, "paint", 10**9)),
     "rhythm": ("hull", 0, (8, 1)),
     "pace": (8, 1),
+    "docks": (("crew", (2,)), ("slip", (0, 1))),
+    "more": (8, 9),
+    "fast pace": (1, 9),
+    "most": 1,
+    "prices": (("hull", 3, 2), ("keel", 2, 0)),
+    "bought": (("hull", 3), ("keel", 1)),
+    "whole pace": 6,
+    "barred pace": 1,
+    "flow": tuple((need, 10**40) for need in NEEDS),
+    "other yard": YARD,
+    "names": ("hull", "paint"),
+    "log ship": 999,
+    "log day": 99999,
+    "log days": 999,
 }
 
 LATE = ("yard", "delays", "changes")
+
+
+def on_log(method):
+    """The method of a Log, of which it is asked that what raises changes nothing."""
+    told = Log(YARD)
+    told.began("hull", 999, 9)
+    told.lasted("hull", 999, 9)
+    told.clashes()
+
+    def look(*arguments):
+        log = told.copy()
+        if method in ("began", "lasted"):
+            log.unsay("hull", 999)
+        before = log.told, log.work
+        try:
+            return getattr(log, method)(*arguments)
+        except errors.YardError:
+            assert before == (log.told, log.work)
+            raise
+
+    return look
+
 
 FUNCTIONS = (
     (Yard, ("works", "needs")),
@@ -323,6 +506,31 @@ FUNCTIONS = (
     (wishes.latest_in, ("yard", "rhythm", "name", "any ship")),
     (wishes.never, ("yard", "rhythm")),
     (wishes.shows_never, ("yard", "rhythm", "value")),
+    (docks.with_more, ("yard", "docks", "more")),
+    (docks.best_paces, ("yard", "docks", "name", "most")),
+    (docks.fewest, ("yard", "docks", "name", "pace")),
+    (docks.too_few, ("yard", "docks", "name", "pace", "most")),
+    (docks.shows_too_few, ("yard", "docks", "name", "fast pace", "most", "value")),
+    (quickening.quickened, ("yard", "prices", "bought")),
+    (quickening.cost, ("yard", "prices", "bought")),
+    (quickening.cheapest, ("yard", "prices", "name", "whole pace")),
+    (quickening.shows_cheapest, ("yard", "prices", "name", "whole pace", "value")),
+    (quickening.flow_worth, ("yard", "prices", "name", "whole pace", "flow")),
+    (quickening.flow, ("yard", "prices", "name", "whole pace")),
+    (quickening.shows_flow, ("yard", "prices", "name", "whole pace", "value")),
+    (quickening.bar, ("yard", "prices", "name", "whole pace")),
+    (quickening.shows_bar, ("yard", "prices", "name", "barred pace", "value")),
+    (alike.apart, ("yard", "other yard", "names")),
+    (alike.idle, ("yard",)),
+    (alike.needless, ("yard",)),
+    (alike.lean, ("yard",)),
+    (alike.alike_always, ("yard", "other yard")),
+    (Log, ("yard",)),
+    (on_log("began"), ("name", "log ship", "log day")),
+    (on_log("lasted"), ("name", "log ship", "log days")),
+    (on_log("unsay"), ("name", "log ship")),
+    (on_log("day"), ("name", "log ship")),
+    (on_log("done"), ("name", "log ship")),
 )
 
 
@@ -363,7 +571,7 @@ class WrongValues(unittest.TestCase):
 
     def test_works_of_another_yard_are_no_works_of_this(self):
         for function, kinds in FUNCTIONS:
-            if kinds[0] == "yard" and len(kinds) > 1:
+            if kinds[0] == "yard" and len(kinds) > 1 and kinds[1] != "other yard":
                 arguments = [OTHER] + [RIGHT[own] for own in kinds[1:]]
                 self.refused(function, arguments, WRONG[kinds[1]][0], arguments[1])
 
