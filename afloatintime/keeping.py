@@ -139,12 +139,16 @@ class Log:
                 found.append((ship, name, least))
         return tuple(found)
 
+    def stand(self, told):
+        """Just this is told, whatever was told ahead; the steps that have been kept stay."""
+        self.told = told
+        self.begins = {(ship, name): begin for ship, name, begin, _ in told if begin is not None}
+        self.lasts = {(ship, name): last for ship, name, _, last in told if last is not None}
+
     def copy(self):
         """An independent Log, alike in all things."""
         other = Log(self.yard)
-        other.told = self.told
+        other.stand(self.told)
         other.work = self.work
-        other.begins = {spot: self.begins[spot] for spot in self.begins}
-        other.lasts = {spot: self.lasts[spot] for spot in self.lasts}
         other.steps = {key: self.steps[key] for key in self.steps}
         return other

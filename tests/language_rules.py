@@ -313,8 +313,6 @@ def syntax(file, package):
             yield "L7", node.value.lineno, "a format"
         if isinstance(node, (ast.ListComp, ast.DictComp)) and not file.function_of(node):
             yield "L7", node.lineno, "a comprehension outside of functions"
-        if isinstance(node, ast.Try) and node.finalbody:
-            yield "L6", node.lineno, "finally"
         if isinstance(node, (ast.AnnAssign, ast.arg)) and node.annotation or getattr(node, "returns", None):
             yield "L21", node.lineno, "an annotation"
         if isinstance(node, ast.Expr) and not isinstance(node.value, ast.Call) and node.value not in file.docstrings():
@@ -500,6 +498,61 @@ def raised(file, package):
                 yield "L19", node.lineno, "an error that is not caught here"
 
 
+def finals(file, package):
+    """L6: a finally puts names and attributes back, and does nothing else."""
+    for node in file.all(ast.Try):
+        for part in node.finalbody:
+            yield from final_faults(part)
+        function = file.function_of(node)
+        ahead = {own.arg for own in ast.walk(function.args) if isinstance(own, ast.arg)} if node.finalbody else ()
+        for own in ast.walk(function) if node.finalbody else ():
+            if isinstance(own, ast.Name) and isinstance(own.ctx, ast.Store) and own.lineno < node.lineno:
+                ahead.add(own.id)
+        for part in node.finalbody:
+            for own in ast.walk(part):
+                if isinstance(own, ast.Name) and isinstance(own.ctx, ast.Load) and own.id not in ahead:
+                    yield "L6", own.lineno, f"{own.id} is read in a finally, and not assigned ahead of the try"
+
+
+def final_faults(node):
+    """What breaks the rule in one statement of a finally."""
+    if isinstance(node, ast.If):
+        if not is_none_test(node.test):
+            yield "L6", node.lineno, "a test in a finally"
+        for part in node.body + node.orelse:
+            yield from final_faults(part)
+    elif isinstance(node, ast.Assign):
+        if len(node.targets) > 1 or not is_put_back(node.targets[0]) or not is_put_back(node.value):
+            yield "L6", node.lineno, "an assignment in a finally"
+    elif isinstance(node, ast.AugAssign):
+        literal = isinstance(node.value, ast.Constant) and isinstance(node.value.value, int)
+        if not isinstance(node.op, (ast.Add, ast.Sub)) or not is_held(node.target) or not literal:
+            yield "L6", node.lineno, "an assignment in a finally"
+    elif not isinstance(node, ast.Pass):
+        yield "L6", node.lineno, "a statement in a finally"
+
+
+def is_none_test(node):
+    if not isinstance(node, ast.Compare) or len(node.ops) != 1 or not is_held(node.left):
+        return False
+    other = node.comparators[0]
+    return isinstance(node.ops[0], (ast.Is, ast.IsNot)) and isinstance(other, ast.Constant) and other.value is None
+
+
+def is_held(node):
+    """Whether this is a name, or an attribute off one."""
+    while isinstance(node, ast.Attribute):
+        node = node.value
+    return isinstance(node, ast.Name)
+
+
+def is_put_back(node):
+    """Whether this is a name, an attribute, a literal without a sign, or several of these side by side."""
+    if isinstance(node, ast.Tuple):
+        return all(is_put_back(part) and not isinstance(part, ast.Tuple) for part in node.elts)
+    return is_held(node) or isinstance(node, ast.Constant)
+
+
 def class_values(file, package):
     """L18: classes are called, are base classes, or stand in isinstance, except and raise."""
     for node in file.all(ast.Name):
@@ -514,7 +567,7 @@ def class_values(file, package):
 
 RULES = (
     sizes, signs, files, imports, module_level, syntax, functions, classes, names, used_builtins, methods, iterated,
-    raised, class_values,
+    raised, finals, class_values,
 )  # fmt: skip
 
 

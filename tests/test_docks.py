@@ -273,7 +273,8 @@ class Trees(unittest.TestCase):
     def test_a_loop_without_docks_has_no_branch(self):
         for most in (0, 5, 8):
             self.assertTrue(docks.shows_too_few(YARD, DOCKS[1:], "dock", (2, 1), most, ((0,), ())))
-            self.assertTrue(docks.shows_too_few(YARD, DOCKS[1:], "dock", (2, 1), most, docks.too_few(YARD, DOCKS[1:], "dock", (2, 1), most)))
+            tree = docks.too_few(YARD, DOCKS[1:], "dock", (2, 1), most)
+            self.assertTrue(docks.shows_too_few(YARD, DOCKS[1:], "dock", (2, 1), most, tree))
 
     def test_all_totals_up_to_8(self):
         for most in range(9):

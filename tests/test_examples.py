@@ -49,6 +49,12 @@ class Examples(unittest.TestCase):
     def test_keeping(self):
         self.assertEqual(self.held("keeping"), 8)
 
+    def test_pictures(self):
+        self.assertEqual(self.held("pictures"), 4)
+
+    def test_desk(self):
+        self.assertEqual(self.held("desk"), 6)
+
 
 if __name__ == "__main__":
     unittest.main()

@@ -106,6 +106,10 @@ INTERFACE = {
         "needless": "yard",
     },
     "keeping": {"Log": "yard"},
+    "pictures": {"chart": "yard ships first many"},
+    "benches": {"Bench": "yard"},
+    "journals": {"journal": "bench", "read_journal": "text"},
+    "desk": {"Desk": "text"},
 }
 
 # The methods that are told for each class, and its attributes.
@@ -119,8 +123,10 @@ METHODS = {
         "clashes": "",
         "copy": "",
     },
+    "Bench": {"log": "", "do": "line", "undo": "", "redo": "", "tried": "look keep", "keep": "", "copy": "", "__len__": ""},
+    "Desk": {"say": "line"},
 }
-ATTRIBUTES = {"Yard": "works needs names text", "Log": "yard told work"}
+ATTRIBUTES = {"Yard": "works needs names text", "Log": "yard told work", "Bench": "yard deeds", "Desk": "bench"}
 
 YARD = importlib.import_module("afloatintime.yards").Yard((("a", 2), ("b", 1)), (("a", "a", 1, 0), ("a", "b", 0, 0)))
 VALUES = {
@@ -154,6 +160,9 @@ VALUES = {
     "bought": (("a", 1),),
     "flow": ((("a", "a", 1, 0), 3),),
     "names": ("a", "b"),
+    "ships": (0, 2),
+    "first": 0,
+    "bench": importlib.import_module("afloatintime.benches").Bench(YARD),
 }
 # Where a parameter of the same name wants another value.
 OTHERS = {
@@ -162,6 +171,8 @@ OTHERS = {
     ("quickening", "pace"): 1,
     ("alike", "one"): YARD,
     ("alike", "other"): YARD,
+    ("journals", "text"): YARD.text + "\ndeeds\nbegan a 1 9",
+    ("desk", "text"): YARD.text + "\ndeeds\nbegan a 1 9",
 }
 
 
@@ -195,9 +206,10 @@ class Interface(unittest.TestCase):
             found = getattr(importlib.import_module(f"afloatintime.{module}"), name)
             values = {parameter: value_for(module, name, parameter) for parameter in parameters}
             backwards = {parameter: values[parameter] for parameter in reversed(parameters)}
-            told = found(*values.values())
-            self.assertEqual(told, found(**values), name)
-            self.assertEqual(told, found(**backwards), name)
+            # Desks are not equal to one another: so their benches stand for them.
+            tellings = [found(*values.values()), found(**values), found(**backwards)]
+            tellings = [getattr(told, "bench", told) for told in tellings]
+            self.assertEqual(tellings, [tellings[0]] * 3, name)
 
     def test_arguments_are_not_changed(self):
         held = [value for value in list(VALUES.values()) + list(OTHERS.values()) if value is not YARD]
@@ -237,6 +249,21 @@ class Classes(unittest.TestCase):
             held = made(*[value_for(module, name, parameter) for parameter in INTERFACE[module][name].split()])
             for attribute in ATTRIBUTES[name].split():
                 self.assertTrue(hasattr(held, attribute), attribute)
+
+    def test_keep_is_passed_by_name_alone(self):
+        parameters = inspect.signature(importlib.import_module("afloatintime.benches").Bench.tried).parameters
+        self.assertIs(parameters["keep"].kind, inspect.Parameter.KEYWORD_ONLY)
+        self.assertIs(parameters["keep"].default, False)
+
+    def test_benches_and_desks_take_arguments_by_position_and_by_name(self):
+        bench = importlib.import_module("afloatintime.benches").Bench(yard=YARD)
+        bench.do(line="began a 1 9")
+        bench.do("lasted a 1 9")
+        self.assertEqual(bench.tried(keep=True, look=lambda own: [own.undo(), own.deeds]), [None, 1])
+        self.assertEqual(bench.deeds, 1)
+        desk = importlib.import_module("afloatintime.desk").Desk(text=YARD.text + "\ndeeds")
+        self.assertEqual([desk.say(line="began a 1 9"), desk.say("day a 1")], ["done", "9"])
+        self.assertEqual(desk.bench, bench)
 
     def test_logs_take_arguments_by_position_and_by_name(self):
         made = importlib.import_module("afloatintime.keeping").Log

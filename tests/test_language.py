@@ -39,6 +39,19 @@ class Box:
     def many(self):
         return len(self.rows)
 
+    def tried(self, look, *, keep=False):
+        rows = self.rows
+        stays = None
+        try:
+            told = look(self)
+            if keep is True:
+                stays = True
+        finally:
+            if stays is None:
+                self.rows, stays = rows, 1
+            rows = None
+        return told
+
 
 def told(rows, most=MOST_OF):
     """All that is told."""
@@ -107,7 +120,15 @@ BREACHES = (
     ("L6", "\ndef f():\n    global MOST\n    MOST = 1\n"),
     ("L6", "\ndef f(x):\n    with x:\n        return 1\n"),
     ("L6", "\ndef f(x):\n    x == 1\n"),
-    ("L6", "\ndef f(x):\n    try:\n        return x\n    finally:\n        x = 1\n"),
+    ("L6", "\ndef f(x):\n    try:\n        return x\n    finally:\n        x = -1\n"),
+    ("L6", "\ndef f(x):\n    try:\n        return x\n    finally:\n        x.run()\n"),
+    ("L6", "\ndef f(x):\n    try:\n        return x\n    finally:\n        x[0] = 1\n"),
+    ("L6", "\ndef f(x):\n    try:\n        return x\n    finally:\n        x -= x\n"),
+    ("L6", "\ndef f(x):\n    try:\n        return x\n    finally:\n        return 1\n"),
+    ("L6", "\ndef f(x):\n    try:\n        return x\n    finally:\n        if x:\n            x = 1\n"),
+    ("L6", "\ndef f(x):\n    try:\n        return x\n    finally:\n        if x is True:\n            x = 1\n"),
+    ("L6", "\ndef f(x):\n    try:\n        return x\n    finally:\n        x = x - 1\n"),
+    ("L6", "\ndef f(x):\n    try:\n        y = x\n    finally:\n        x.rows = y\n"),
     ("L7", "\nX = 1.5\n"),
     ("L7", "\nX = b'a'\n"),
     ("L7", "\ndef f(a):\n    return a / 2\n"),

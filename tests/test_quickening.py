@@ -182,7 +182,8 @@ class Cheapest(unittest.TestCase):
         self.assertEqual(quickening.cheapest(YARD, PRICES, "build", 3), (("build", 1),))
 
     def test_a_work_of_two_rings_is_bought_once(self):
-        yard = yard_of({"a": 5, "b": 5, "c": 5}, *[(x, y, back, 0) for x, y, back in (("a", "b", 0), ("b", "a", 1), ("b", "c", 0), ("c", "b", 1))])
+        needs = [("a", "b", 0, 0), ("b", "a", 1, 0), ("b", "c", 0, 0), ("c", "b", 1, 0)]
+        yard = yard_of({"a": 5, "b": 5, "c": 5}, *needs)
         for price, bought in ((5, (("b", 2),)), (7, (("a", 2), ("c", 2)))):
             prices = (("a", 3, 0), ("b", price, 0), ("c", 3, 0))
             self.assertEqual(quickening.cheapest(yard, prices, "c", 8), bought)

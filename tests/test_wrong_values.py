@@ -4,7 +4,11 @@ import unittest
 from itertools import combinations
 
 from afloatintime import alike, days, docks, errors, late, quickening, rings, room, tables, wishes, yards
+from afloatintime.benches import Bench
+from afloatintime.desk import Desk
+from afloatintime.journals import read_journal
 from afloatintime.keeping import Log
+from afloatintime.pictures import chart
 from afloatintime.yards import Yard
 from tests.samples import ANY
 
@@ -376,6 +380,17 @@ WRONG.update(
                 b"hull",
             ),
         ),
+        "ships": (
+            "BadShips",
+            tuple(value for value in ANY if value != (0,))
+            + ((-1,), (1000,), (True,), (0, True), (0, None), ("0",), ((0,),), [0, 1], (1, 0), (1, 1), (0, 1, 2, 3, 4, 5, 6)),
+        ),
+        "first day": ("BadDay", any_but(*INTEGERS) + (100000, 10**8, "5", (5,))),
+        "signs": ("BadNumber", any_but(*[value for value in INTEGERS if value > 0]) + (101, 10**8, "5", (5,))),
+        "line": (
+            "BadTask",
+            ANY + ("began hull 1", "began hull 1 2\n", "began Hull 1 2", "began hull 01 2", "undo ", b"undo", ("undo",)),
+        ),
         "log ship": ("BadShip", any_but(*INTEGERS) + (1000, 10**8, "5", (5,))),
         "log day": ("BadDay", any_but(*INTEGERS) + (100000, 10**8, "5", (5,))),
         "log days": ("BadDays", any_but(*INTEGERS) + (1000, 10**8, "5", (5,))),
@@ -422,6 +437,10 @@ RIGHT = {
     "flow": tuple((need, 10**40) for need in NEEDS),
     "other yard": YARD,
     "names": ("hull", "paint"),
+    "ships": (0, 999),
+    "first day": 99999,
+    "signs": 100,
+    "line": "began hull 999 99999",
     "log ship": 999,
     "log day": 99999,
     "log days": 999,
@@ -531,6 +550,10 @@ FUNCTIONS = (
     (on_log("unsay"), ("name", "log ship")),
     (on_log("day"), ("name", "log ship")),
     (on_log("done"), ("name", "log ship")),
+    (chart, ("yard", "ships", "first day", "signs")),
+    (Bench, ("yard",)),
+    (lambda line: Bench(YARD).do(line), ("line",)),
+    (lambda line: Desk(YARD.text + "\ndeeds").say(line), ("line",)),
 )
 
 
@@ -571,7 +594,7 @@ class WrongValues(unittest.TestCase):
 
     def test_works_of_another_yard_are_no_works_of_this(self):
         for function, kinds in FUNCTIONS:
-            if kinds[0] == "yard" and len(kinds) > 1 and kinds[1] != "other yard":
+            if kinds[0] == "yard" and len(kinds) > 1 and kinds[1] not in ("other yard", "ships"):
                 arguments = [OTHER] + [RIGHT[own] for own in kinds[1:]]
                 self.refused(function, arguments, WRONG[kinds[1]][0], arguments[1])
 
@@ -592,6 +615,13 @@ class WrongValues(unittest.TestCase):
                 except errors.YardError:
                     pass
         self.assertEqual(value, [["hull", 5], {"keel": [3]}])
+
+    def test_journals_are_told_by_a_number(self):
+        for value in ANY + (YARD, [YARD.text], b"deeds", (YARD.text + "\ndeeds",)):
+            for function in (read_journal, Desk):
+                with self.assertRaises(errors.BadJournal) as caught:
+                    function(value)
+                self.assertEqual(repr(caught.exception.value), "1" if isinstance(value, str) else "0")
 
     def test_shows_functions_tell_a_bool_for_any_value(self):
         for function, kinds in FUNCTIONS:
