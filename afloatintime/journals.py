@@ -11,7 +11,8 @@ def journal(bench):
 
 
 def yard_of(lines):
-    """The YARD of these lines, the first ones of a journal; without any, its first line is the one that cannot stand."""
+    """The YARD of these lines, the first ones of a journal."""
+    # Without any lines it is the first one of all that cannot stand, as in a text without signs.
     try:
         return read_yard("\n".join(lines))
     except BadYard as error:
