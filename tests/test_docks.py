@@ -221,7 +221,7 @@ class Trees(unittest.TestCase):
 
     def test_near_to_trees(self):
         found = 0
-        for yard, held, name in cases("near", 25):
+        for yard, held, name in cases("near", 30):
             for pace in wished(yard, held, name, 1)[:3]:
                 tree = docks.too_few(yard, held, name, pace, 2)
                 if tree is not None:
@@ -231,7 +231,7 @@ class Trees(unittest.TestCase):
                             found += 1
                     for most in (0, 1, 3, 8):
                         self.asked(yard, held, name, pace, most, tree)
-        self.assertGreater(found, 2000)
+        self.assertGreater(found, 1500)
 
     def test_all_short_loops(self):
         yard = yard_of({"a": 4, "b": 2, "c": 9}, ("a", "a", 1, 0), ("a", "b", 0, 0), ("b", "a", 1, -1), ("c", "c", 1, 0))

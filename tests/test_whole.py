@@ -74,7 +74,7 @@ class LateAndRoom(unittest.TestCase):
                 most = room.room(yard, (ship, name), goal)
                 found[most is None] += 1
                 if most is None:
-                    self.assertEqual(late.last_moved(yard, ((ship, name, day + 500),), (), goal), "none")
+                    self.assertEqual(late.last_moved(yard, ((ship, name, day + 60),), (), goal), "none")
                     continue
                 self.assertEqual(late.last_moved(yard, ((ship, name, day + most),), (), goal), "none")
                 self.assertNotEqual(late.last_moved(yard, ((ship, name, day + most + 1),), (), goal), "none")
@@ -101,10 +101,9 @@ class LateAndRoom(unittest.TestCase):
                 told = room.rooms(yard, name, goal)
                 self.assertEqual(told is not None and told[2] == 0 and 0 in told[1], name in tight)
                 self.assertEqual(told is None, room.room(yard, (FAR, name), goal) is None)
-            # What ring tells of goal's pace has no room in it, where goal's own works are steady.
-            ring = rings.ring(yard, goal)
-            if ring is not None and rings.pace(yard, ring[0][0]) == rings.pace(yard, goal):
-                self.assertTrue({need[0] for need in ring} & set(tight))
+            # Far on goal is bound by a ring that has its pace: some work of such a ring has no room of endlessly many ships.
+            if rings.pace(yard, goal) != (0, 1):
+                self.assertTrue({name for need in rings.tight(yard, goal) for name in need[:2]} & set(tight))
 
     def test_quiet_and_unmoved(self):
         rng = random.Random("quiet")
