@@ -199,6 +199,15 @@ class Lines(unittest.TestCase):
 
         return look
 
+    def test_a_log_of_the_bench_has_used_no_steps(self):
+        desk = Desk(TEXT + "\nbegan dock 2 50")
+        desk.say("day dock 9")
+        desk.say("clashes")
+        log = desk.bench.log()
+        self.assertEqual(log.work, 0)
+        log.day("dock", 1)
+        self.assertEqual((log.work, desk.bench.log().work, desk.bench.copy().log().work), (2, 0, 0))
+
     def test_two_desks(self):
         one, other = Desk(TEXT), Desk(TEXT)
         one.say("began dock 2 50")

@@ -258,6 +258,8 @@ class Copies(unittest.TestCase):
         self.assertEqual(other.work, 6)
         other.day("dock", 6)
         self.assertEqual((other.work, log.work), (7, 6))
+        log.day("dock", 5)
+        self.assertEqual((other.work, log.work), (7, 6))
         log.day("dock", 6)
         self.assertEqual(log.work, 7)
 
